@@ -1,0 +1,1 @@
+"""Graftrules: one told tree put in the place of another."""
