@@ -7,6 +7,23 @@ from graftrules.errors import BadLot
 from graftrules.lots import Lot, steps
 from graftrules.trees import places, put, size
 
+A = ("a",)
+B = ("b",)
+C = ("c",)
+D = ("d",)
+Z = ("z",)
+AB = (A, B)
+BC = (B, C)
+LETTERS = [(letter,) for letter in "abcdefghi"]
+# Each of these eight steps is needed at each leaf a.
+CHAIN = Lot([(LETTERS[k], LETTERS[k + 1]) for k in range(8)])
+SIGNS = [("a", 0), ("b", 0), ("c", 0), ("f", 1), ("h", 2)]
+
+
+def fours(tree):
+    """Return a tree with four children that are all the same."""
+    return ("f", tree, tree, tree, tree)
+
 
 def nested(value, levels, wrap):
     """Return a value within so many levels of what wrap puts around it."""

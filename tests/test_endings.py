@@ -11,24 +11,9 @@ from graftrules.errors import GoesOn, TooLong
 from graftrules.lots import Lot, after, steps
 from graftrules.trees import places, size
 from graftrules.ways import least_steps
-from tests.helper import any_values, branches, lots_by, tree_by
+from tests.helper import A, AB, B, BC, C, CHAIN, D, LETTERS, SIGNS, any_values, branches, fours, lots_by, tree_by
 
-A = ("a",)
-B = ("b",)
-C = ("c",)
-D = ("d",)
-AB = (A, B)
-BC = (B, C)
-SIGNS = [("a", 0), ("b", 0), ("c", 0), ("f", 1), ("h", 2)]
 MANY = lots_by(31, 250, 4, SIGNS)
-LETTERS = [(letter,) for letter in "abcdefghi"]
-CHAIN = Lot([(LETTERS[k], LETTERS[k + 1]) for k in range(8)])
-
-
-def fours(tree):
-    return ("f", tree, tree, tree, tree)
-
-
 GREAT = Lot([(LETTERS[k], fours(LETTERS[k + 1])) for k in range(8)])
 # The left side of the second rule stands in no right side, but one of their parts becomes it.
 THROUGH_WAYS = Lot([(A, ("f", ("g", B))), (("g", ("f", D)), ("h", A)), (B, C), (C, ("f", D))])

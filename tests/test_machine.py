@@ -12,15 +12,8 @@ from graftrules.lots import Lot
 from graftrules.machine import Machine, reading
 from graftrules.trees import size
 from graftrules.ways import least_steps
-from tests.helper import lots_by, table_by_definition, tree_by
+from tests.helper import A, AB, B, BC, C, D, SIGNS, lots_by, table_by_definition, tree_by
 
-A = ("a",)
-B = ("b",)
-C = ("c",)
-D = ("d",)
-AB = (A, B)
-BC = (B, C)
-SIGNS = [("a", 0), ("b", 0), ("c", 0), ("f", 1), ("h", 2)]
 MANY = lots_by(21, 60, 6, SIGNS)
 GROWING = Lot([(A, ("f", A, A)), (("f", B, B), C), (A, B), (("f", C, C), ("z",)), (("z",), ("f", ("z",), A))])
 # With these signs the first one has sixty readings, the second one sixty-one.

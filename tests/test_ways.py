@@ -11,29 +11,14 @@ from graftrules.lots import Lot, after, steps
 from graftrules.tables import Table
 from graftrules.trees import part_at, put, size
 from graftrules.ways import becomes, is_fence, is_way, least_steps, number_table
-from tests.helper import (any_values, branches, is_closed_by_definition, lots_by, nested, parts_told,
-                          table_by_definition, tree_by, trees_behind, trees_up_to)
+from tests.helper import (A, AB, B, BC, C, CHAIN, LETTERS, Z, any_values, branches, fours, is_closed_by_definition,
+                          lots_by, nested, parts_told, table_by_definition, tree_by, trees_behind, trees_up_to)
 
-A = ("a",)
-B = ("b",)
-C = ("c",)
-Z = ("z",)
-AB = (A, B)
-BC = (B, C)
 SIGNS = [("a", 0), ("b", 0), ("c", 0), ("f", 1), ("g", 1), ("h", 2)]
-LETTERS = [(letter,) for letter in "abcdefghi"]
 # Its trees grow without end, and a becomes z all the same.
 GROWING = Lot([(A, ("f", A, A)), (("f", B, B), C), (A, B), (("f", C, C), Z), (Z, ("f", Z, A))])
-# Each of these eight steps is needed at each leaf a.
-CHAIN = Lot([(LETTERS[k], LETTERS[k + 1]) for k in range(8)])
 # The lots of the tests that go through many lots, trees that grow without end among them.
 MANY = lots_by(1, 150, 5, SIGNS)
-
-
-def fours(tree):
-    return ("f", tree, tree, tree, tree)
-
-
 # a becomes z by four times as many steps as b, and two, and so on.
 GREAT = Lot([(LETTERS[k], fours(LETTERS[k + 1])) for k in range(6)] + [(LETTERS[6], fours(Z)), (fours(Z), Z)])
 GREAT_NUMBERS = [10922, 2730, 682, 170, 42, 10, 2]
