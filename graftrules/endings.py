@@ -14,7 +14,8 @@ def links_of(table):
     links = []
     for _, right in table.pairs:
         found = {}
-        for place, part in places(table.trees[right]):
+        tree = table.trees[right]
+        for place, part in places(tree):
             row = table.numbers[table.number_of(part)]
             for number, (left, _) in enumerate(table.pairs):
                 if left in row and number not in found:
@@ -42,6 +43,7 @@ def ring_of(links, order):
     trail = [left_out[0]]
     while trail[-1] not in trail[:-1]:
         trail.append([number for number in left_out if trail[-1] in links[number]][0])
+    # The trail goes against the ring, so it is read from its end, as far back as where that rule stood before.
     ring = trail[:trail.index(trail[-1]):-1]
     return [(number, links[number][following]) for number, following in zip(ring, ring[1:] + ring[:1])]
 
