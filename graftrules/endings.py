@@ -113,7 +113,7 @@ def greatest(lot, tree):
     levels = {}
     for part in bottom_up(table):
         children = table.children[part]
-        behind = [right for left, right in table.pairs if left in table.numbers[part]]
+        behind = table.rights_behind(part)
         grown = 1 + sum([nodes[child] for child in children])
         nodes[part] = max([grown] + [nodes[right] for right in behind])
         raised = 1 + max([levels[child] for child in children], default=0)

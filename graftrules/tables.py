@@ -2,7 +2,7 @@
 
 from heapq import heappop, heappush
 
-from graftrules.trees import parts_of
+from graftrules.trees import parts_of, size
 
 # Stands in the place of a rule's number where a way has no step at the top of the tree, only steps within its children.
 WITHIN = -1
@@ -46,37 +46,51 @@ class PartList:
         return [(one, other) for numbers in rows for one in numbers for other in numbers if one != other]
 
 
+class SumsAbove:
+    """Adds up the numbers of pairs of children, for each pair of unlike parts that have the same sign."""
+
+    def __init__(self, part_list):
+        self._above = {}
+        self._missing = {}
+        self._sums = {}
+        for above in part_list.alike():
+            below = part_list.child_pairs(above[0], above[1])
+            self._missing[above] = len(below)
+            self._sums[above] = 0
+            for pair in below:
+                self._above.setdefault(pair, []).append(above)
+
+    def complete(self, one, other, number):
+        """Add the number of a pair of children, once; list (sum, u, v) for the pairs of which it was the last one."""
+        found = []
+        for above in self._above.get((one, other), []):
+            self._missing[above] -= 1
+            self._sums[above] += number
+            if self._missing[above] == 0:
+                found.append((self._sums[above], above[0], above[1]))
+        return found
+
+
 class Table(PartList):
     """All pairs of such parts of which the first becomes the second one, with the least numbers of steps.
 
     numbers[u][v] is the least number of steps from u to v, and choices[u][v] tells how a way with so many goes on:
     the number of a rule that is used at the top of the tree, or WITHIN. What u does not become has no entry.
+    sources[v][u] is numbers[u][v].
     """
 
     def __init__(self, rules, trees):
         super().__init__(rules, trees)
         self.numbers = [{} for _ in self.trees]
         self.choices = [{} for _ in self.trees]
-        self._sources = [{} for _ in self.trees]
-        self._above = {}
-        self._missing = {}
-        self._sums = {}
+        self.sources = [{} for _ in self.trees]
+        self._sums_above = SumsAbove(self)
         self._heap = [(0, part, part, WITHIN) for part in range(len(self.trees))]
-        self._look_above()
         # No sum is less than its summands, so the least number on the heap is always a least one for its pair.
         while self._heap:
             number, start, goal, choice = heappop(self._heap)
             if goal not in self.numbers[start]:
                 self._settle(number, start, goal, choice)
-
-    def _look_above(self):
-        """Note for each pair of children above which pairs of parts it stands."""
-        for above in self.alike():
-            below = self.child_pairs(above[0], above[1])
-            self._missing[above] = len(below)
-            self._sums[above] = 0
-            for pair in below:
-                self._above.setdefault(pair, []).append(above)
 
     def _offer(self, number, start, goal, choice):
         """Put a number of steps on the heap, unless a lower one is settled for this pair."""
@@ -87,23 +101,24 @@ class Table(PartList):
         """Keep the least number of steps of a pair, and offer what follows from it."""
         self.numbers[start][goal] = number
         self.choices[start][goal] = choice
-        self._sources[goal][start] = number
-        for above in self._above.get((start, goal), []):
-            self._missing[above] -= 1
-            self._sums[above] += number
-            if self._missing[above] == 0:
-                self._offer(self._sums[above], above[0], above[1], WITHIN)
+        self.sources[goal][start] = number
+        for total, one, other in self._sums_above.complete(start, goal, number):
+            self._offer(total, one, other, WITHIN)
         for rule, (left, right) in enumerate(self.pairs):
             if goal == left:
                 for further, more in self.numbers[right].items():
                     self._offer(number + 1 + more, start, further, rule)
             if start == right:
-                for before, fewer in self._sources[left].items():
+                for before, fewer in self.sources[left].items():
                     self._offer(fewer + 1 + number, before, goal, rule)
 
     def least(self, tree, other):
         """Return the least number of steps from one of the trees to another one, None if there is no way."""
         return self.numbers[self.number_of(tree)].get(self.number_of(other))
+
+    def rights_behind(self, part):
+        """List the right sides of the rules whose left sides a part becomes."""
+        return [right for left, right in self.pairs if left in self.numbers[part]]
 
     def told_pairs(self):
         """List the pairs of numbers of the table, in order."""
@@ -136,3 +151,19 @@ def way_of(plan, start, goal):
             place, begin, end = told
             waiting.extend(plan.stretches(place, begin, end)[::-1])
     return way
+
+
+def least_before(table):
+    """Return for each part the least of all trees that become it."""
+    found = {}
+    while len(found) < len(table.trees):
+        ready = []
+        for part, children in enumerate(table.children):
+            if part not in found and all([child in found for child in children]):
+                tree = table.trees[part][:1] + tuple([found[child] for child in children])
+                ready.append((size(tree), tree, part))
+        # No tree that is still to be found is less than the least one of these, so all that its part becomes have it.
+        _, least, part = min(ready)
+        for goal in table.numbers[part]:
+            found.setdefault(goal, least)
+    return found

@@ -18,11 +18,36 @@ LETTERS = [(letter,) for letter in "abcdefghi"]
 # Each of these eight steps is needed at each leaf a.
 CHAIN = Lot([(LETTERS[k], LETTERS[k + 1]) for k in range(8)])
 SIGNS = [("a", 0), ("b", 0), ("c", 0), ("f", 1), ("h", 2)]
+# Its trees grow without end, and a becomes z all the same.
+GROWING = Lot([(A, ("f", A, A)), (("f", B, B), C), (A, B), (("f", C, C), Z), (Z, ("f", Z, A))])
+# Lots with eight rules whose told parts have very great least numbers of steps between them.
+WILD = Lot([
+    (("g", ("f", C), ("g", C, C)), ("k", A, A)),
+    (("f", ("k", C, C)), ("g", ("d",), ("d",))),
+    (("k", ("k", ("f", B), B), B), C),
+    (("k", ("f", A), ("k", A, A)), B),
+    (("d",), ("k", ("d",), ("d",))),
+    (("d",), A),
+    (("f", ("f", A)), ("h", A, ("h", A, A))),
+    (A, ("f", ("d",))),
+])
+# Two rules with twenty-four told parts, of which no two have anything in common, and six rules between them.
+WIDE_SIDES = [(s + "f", (s + "g", (s + "h", (s + "a",))), (s + "b",), (s + "c",)) for s in "pqrs"]
+WIDE = Lot([
+    (WIDE_SIDES[0], WIDE_SIDES[1]), (WIDE_SIDES[2], WIDE_SIDES[3]), (("pa",), ("qa",)), (("qa",), ("pa",)),
+    (("pb",), WIDE_SIDES[0]), (("pc",), ("pb",)), (("pb",), ("pc",)), (WIDE_SIDES[1], ("rh", ("ra",))),
+])
 
 
 def fours(tree):
     """Return a tree with four children that are all the same."""
     return ("f", tree, tree, tree, tree)
+
+
+def forty(leaf, other):
+    """Return a tree of forty nodes and four levels."""
+    low = ("f", leaf, other, leaf)
+    return ("g", ("f", low, low, low), ("f", low, low, low, leaf), ("f", low, low, leaf, other), leaf)
 
 
 def nested(value, levels, wrap):
@@ -85,6 +110,19 @@ def branches(number, children, leaf):
     return tree
 
 
+def trees_of(signs, most):
+    """List for each number of nodes, from none up to the most, all trees of some signs."""
+    by_nodes = [[]]
+    for nodes in range(1, most + 1):
+        found = []
+        for name, many in signs:
+            for sizes in product(range(1, nodes), repeat=many):
+                if sum(sizes) == nodes - 1:
+                    found += [(name,) + row for row in product(*[by_nodes[child] for child in sizes])]
+        by_nodes.append(found)
+    return by_nodes
+
+
 def tree_by(chance, levels, signs):
     """Return a tree of at most so many levels, as a random source tells."""
     name, many = chance.choice([sign for sign in signs if levels > 1 or sign[1] == 0])
@@ -114,6 +152,18 @@ def lots_by(seed, many, rules, signs):
         except BadLot:
             continue
     return found
+
+
+def growing(chance):
+    """Return a lot whose left sides have letters ahead of those of their right sides, so that it ends."""
+    rules = []
+    for at in [0, 1, 2, 3, chance.randrange(4), chance.randrange(4)]:
+        low, high = LETTERS[at], LETTERS[at + 1:at + 3]
+        left = low if len(rules) < 4 else chance.choice([("f", low, low), ("f", low, high[0]), ("g", low)])
+        right = tree_by(chance, 2, [("f", 2), ("g", 1), (high[0][0], 0), (high[1][0], 0)])
+        if (left, right) not in rules:
+            rules.append((left, right))
+    return Lot(rules)
 
 
 def trees_behind(lot, tree, most):
@@ -173,3 +223,58 @@ def is_closed_by_definition(lot, tree, other, pairs):
     told = parts_told(lot, tree, other)
     numbers = {pair: 0 for pair in pairs}
     return all((one, two) in numbers or not sums_for(lot, one, two, numbers) for one in told for two in told)
+
+
+def in_order(trees):
+    """List different trees in order, from the definition."""
+    return sorted(set(trees), key=lambda tree: (size(tree), tree))
+
+
+def signs_of(lot):
+    """List the signs of the told parts of a lot."""
+    return sorted({(part[0], len(part) - 1) for part in parts_told(lot)})
+
+
+def all_behind(lot, tree):
+    """Return the set of all trees that a tree becomes, in a lot that ends."""
+    found = {tree}
+    waiting = [tree]
+    while waiting:
+        for _, _, other in steps(lot, waiting.pop()):
+            if other not in found:
+                found.add(other)
+                waiting.append(other)
+    return found
+
+
+def ends_by_going(lot, tree):
+    """List the ends of a tree in a lot that ends: all trees that it becomes are gone to."""
+    return in_order([other for other in all_behind(lot, tree) if not list(steps(lot, other))])
+
+
+def least_equals(lot, trees):
+    """Return the dict of the least equal one of each of some trees, among which are all their parts and told parts.
+
+    From the definition: classes are put together while sides of rules or trees with equal children are in two.
+    """
+    least = {tree: tree for tree in trees}
+
+    def put_together(one, other):
+        low, high = in_order([least[one], least[other]])
+        for tree in trees:
+            if least[tree] == high:
+                least[tree] = low
+
+    for left, right in lot.rules():
+        if least[left] != least[right]:
+            put_together(left, right)
+    going = True
+    while going:
+        going = False
+        known = {}
+        for tree in trees:
+            like = known.setdefault((tree[0],) + tuple(least[child] for child in tree[1:]), tree)
+            if least[like] != least[tree]:
+                put_together(like, tree)
+                going = True
+    return least

@@ -11,24 +11,13 @@ from graftrules.errors import GoesOn, TooLong
 from graftrules.lots import Lot, after, steps
 from graftrules.trees import places, size
 from graftrules.ways import least_steps
-from tests.helper import A, AB, B, BC, C, CHAIN, D, LETTERS, SIGNS, any_values, branches, fours, lots_by, tree_by
+from tests.helper import (A, AB, B, BC, C, CHAIN, D, LETTERS, SIGNS, any_values, branches, fours, growing, lots_by,
+                          tree_by)
 
 MANY = lots_by(31, 250, 4, SIGNS)
 GREAT = Lot([(LETTERS[k], fours(LETTERS[k + 1])) for k in range(8)])
 # The left side of the second rule stands in no right side, but one of their parts becomes it.
 THROUGH_WAYS = Lot([(A, ("f", ("g", B))), (("g", ("f", D)), ("h", A)), (B, C), (C, ("f", D))])
-
-
-def growing(chance):
-    """Return a lot whose left sides have letters ahead of those of their right sides, so that it ends."""
-    rules = []
-    for at in [0, 1, 2, 3, chance.randrange(4), chance.randrange(4)]:
-        low, high = LETTERS[at], LETTERS[at + 1:at + 3]
-        left = low if len(rules) < 4 else chance.choice([("f", low, low), ("f", low, high[0]), ("g", low)])
-        right = tree_by(chance, 2, [("f", 2), ("g", 1), (high[0][0], 0), (high[1][0], 0)])
-        if (left, right) not in rules:
-            rules.append((left, right))
-    return Lot(rules)
 
 
 def leads(lot, tree, number):

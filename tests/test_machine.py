@@ -12,10 +12,9 @@ from graftrules.lots import Lot
 from graftrules.machine import Machine, reading
 from graftrules.trees import size
 from graftrules.ways import least_steps
-from tests.helper import A, AB, B, BC, C, D, SIGNS, lots_by, table_by_definition, tree_by
+from tests.helper import A, AB, B, BC, C, D, GROWING, SIGNS, lots_by, table_by_definition, tree_by, trees_of
 
 MANY = lots_by(21, 60, 6, SIGNS)
-GROWING = Lot([(A, ("f", A, A)), (("f", B, B), C), (A, B), (("f", C, C), ("z",)), (("z",), ("f", ("z",), A))])
 # With these signs the first one has sixty readings, the second one sixty-one.
 SIXTY = (
     Lot([
@@ -40,19 +39,6 @@ GREAT = (
     ]),
     [("f", 1), ("k", 2), ("g", 2), ("h", 2), ("a", 0)],
 )
-
-
-def trees_of(signs, most):
-    """List for each number of nodes, from none up to the most, all trees of some signs."""
-    by_nodes = [[]]
-    for nodes in range(1, most + 1):
-        found = []
-        for name, many in signs:
-            for sizes in itertools.product(range(1, nodes), repeat=many):
-                if sum(sizes) == nodes - 1:
-                    found += [(name,) + row for row in itertools.product(*[by_nodes[child] for child in sizes])]
-        by_nodes.append(found)
-    return by_nodes
 
 
 def reading_by_ways(lot, tree):

@@ -11,40 +11,16 @@ from graftrules.lots import Lot, after, steps
 from graftrules.tables import Table
 from graftrules.trees import part_at, put, size
 from graftrules.ways import becomes, is_fence, is_way, least_steps, number_table
-from tests.helper import (A, AB, B, BC, C, CHAIN, LETTERS, Z, any_values, branches, fours, is_closed_by_definition,
-                          lots_by, nested, parts_told, table_by_definition, tree_by, trees_behind, trees_up_to)
+from tests.helper import (A, AB, B, BC, C, CHAIN, GROWING, LETTERS, WIDE, WIDE_SIDES, WILD, Z, any_values, branches,
+                          forty, fours, is_closed_by_definition, lots_by, nested, parts_told, table_by_definition,
+                          tree_by, trees_behind, trees_up_to)
 
 SIGNS = [("a", 0), ("b", 0), ("c", 0), ("f", 1), ("g", 1), ("h", 2)]
-# Its trees grow without end, and a becomes z all the same.
-GROWING = Lot([(A, ("f", A, A)), (("f", B, B), C), (A, B), (("f", C, C), Z), (Z, ("f", Z, A))])
 # The lots of the tests that go through many lots, trees that grow without end among them.
 MANY = lots_by(1, 150, 5, SIGNS)
 # a becomes z by four times as many steps as b, and two, and so on.
 GREAT = Lot([(LETTERS[k], fours(LETTERS[k + 1])) for k in range(6)] + [(LETTERS[6], fours(Z)), (fours(Z), Z)])
 GREAT_NUMBERS = [10922, 2730, 682, 170, 42, 10, 2]
-# Lots with eight rules whose told parts have very great least numbers of steps between them.
-WILD = Lot([
-    (("g", ("f", C), ("g", C, C)), ("k", A, A)),
-    (("f", ("k", C, C)), ("g", ("d",), ("d",))),
-    (("k", ("k", ("f", B), B), B), C),
-    (("k", ("f", A), ("k", A, A)), B),
-    (("d",), ("k", ("d",), ("d",))),
-    (("d",), A),
-    (("f", ("f", A)), ("h", A, ("h", A, A))),
-    (A, ("f", ("d",))),
-])
-# Two rules with twenty-four told parts, of which no two have anything in common, and six rules between them.
-WIDE_SIDES = [(s + "f", (s + "g", (s + "h", (s + "a",))), (s + "b",), (s + "c",)) for s in "pqrs"]
-WIDE = Lot([
-    (WIDE_SIDES[0], WIDE_SIDES[1]), (WIDE_SIDES[2], WIDE_SIDES[3]), (("pa",), ("qa",)), (("qa",), ("pa",)),
-    (("pb",), WIDE_SIDES[0]), (("pc",), ("pb",)), (("pb",), ("pc",)), (WIDE_SIDES[1], ("rh", ("ra",))),
-])
-
-
-def forty(leaf, other):
-    """Return a tree of forty nodes and four levels."""
-    low = ("f", leaf, other, leaf)
-    return ("g", ("f", low, low, low), ("f", low, low, low, leaf), ("f", low, low, leaf, other), leaf)
 
 
 class TestInterface(unittest.TestCase):
