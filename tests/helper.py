@@ -166,19 +166,27 @@ def growing(chance):
     return Lot(rules)
 
 
-def trees_behind(lot, tree, most):
-    """Return the dict of the trees that ways of at most so many steps lead to, with their least numbers of steps."""
+def near_by(tree, most, behind):
+    """Return the dict of the trees that at most so many steps lead to, each with the least number of steps.
+
+    behind lists the trees to which one step leads.
+    """
     found = {tree: 0}
     last = [tree]
     for number in range(1, most + 1):
-        behind = []
+        further = []
         for now in last:
-            for _, _, other in steps(lot, now):
+            for other in behind(now):
                 if other not in found:
                     found[other] = number
-                    behind.append(other)
-        last = behind
+                    further.append(other)
+        last = further
     return found
+
+
+def trees_behind(lot, tree, most):
+    """Return the dict of the trees that ways of at most so many steps lead to, with their least numbers of steps."""
+    return near_by(tree, most, lambda now: [other for _, _, other in steps(lot, now)])
 
 
 def parts_told(lot, *trees):

@@ -11,7 +11,7 @@ from graftrules.errors import TooLong
 from graftrules.lots import Lot
 from graftrules.trees import part_at, places, put
 from tests.helper import (A, AB, B, BC, C, CHAIN, D, GROWING, LETTERS, SIGNS, WIDE, WILD, Z, any_values, branches,
-                          forty, fours, in_order, least_equals, lots_by, parts_told, signs_of, tree_by, trees_of)
+                          forty, fours, in_order, least_equals, lots_by, near_by, parts_told, signs_of, tree_by, trees_of)
 
 MANY = lots_by(81, 120, 5, SIGNS)
 # The example of the document.
@@ -32,17 +32,7 @@ def across(lot, tree):
 
 def near_trees(lot, tree, most):
     """Return the dict of the trees to which bridges of at most so many steps lead, with their least numbers."""
-    found = {tree: 0}
-    last = [tree]
-    for number in range(1, most + 1):
-        behind = []
-        for now in last:
-            for _, other in across(lot, now):
-                if other not in found:
-                    found[other] = number
-                    behind.append(other)
-        last = behind
-    return found
+    return near_by(tree, most, lambda now: [other for _, other in across(lot, now)])
 
 
 def is_parting_by_definition(lot, tree, other, lists):
