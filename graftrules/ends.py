@@ -62,12 +62,11 @@ def bounds_of(table, start, limit):
     bounds = {start: limit}
     for part in reversed(bottom_up(table)):
         if part in bounds:
+            for right in table.rights_behind(part):
+                bounds.setdefault(right, bounds[part])
             # Trees that differ only in the end of one child are ends, too, but for those that are left sides.
             for child in table.children[part]:
-                most = bounds[part] + len(table.pairs)
-                bounds[child] = min(most, bounds.get(child, most))
-            for right in table.rights_behind(part):
-                bounds[right] = min(bounds[part], bounds.get(right, bounds[part]))
+                bounds.setdefault(child, bounds[part] + len(table.pairs))
     return bounds
 
 

@@ -2,6 +2,7 @@
 
 import copy
 import random
+import time
 import unittest
 
 from graftrules import ends as ends_file
@@ -414,6 +415,13 @@ class TestEnds(EndsCase):
         self.assertEqual(ends(lot, ("f", A, A), limit=1), [D])
         self.assertTooMany(3, lot, fours(A))
         self.assertEqual(ends(lot, fours(("f", A, A)), limit=1), [fours(D)])
+
+    def test_time_does_not_depend_on_how_many_there_are(self):
+        # Each child has 49 ends here, so the four of them have some millions of rows of ends.
+        start = time.process_time()
+        self.assertTooMany(50, SEVEN, ("k",) + (("f", A, A),) * 4)
+        self.assertTooMany(50, SEVEN, ("k",) + (("f", ("g", A, A), Z),) * 4)
+        self.assertLess(time.process_time() - start, 2)
 
     def test_four_hundred_nodes_and_six_levels(self):
         self.assertEqual(greatest(TALL, FOUR_HUNDRED), (400, 6))

@@ -223,7 +223,8 @@ class TestIsUnlike(LikenessCase):
         which, number, fence = leads_same(one, other)[1]
         self.assertEqual((which, number), (1, 3))
         self.assertIs(is_unlike(one, other, (1, 3, fence)), True)
-        self.assertIs(is_unlike(one, other, (True, 3, fence)), False)
+        for wrong in (True, 0, 2, -1, "1"):
+            self.assertIs(is_unlike(one, other, (wrong, 3, fence)), False)
         which, number, fence = leads_same(Lot([AB, BC]), Lot([AB]))[1]
         self.assertEqual((which, number), (0, 1))
         self.assertIs(is_unlike(Lot([AB, BC]), Lot([AB]), (0, 1, fence)), True)

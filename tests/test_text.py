@@ -14,7 +14,6 @@ from tests.helper import (A, AB, B, BC, C, CHAIN, GROWING, LETTERS, SIGNS, WIDE,
                           lots_by, nested, tree_by, trees_up_to)
 
 LINES = ["a -> b", "f(a,g(b)) -> c", "g(g(a)) -> h(a,b)"]
-# The least beginnings of names and trees, to go on with behind a text.
 NAME = re.compile("[a-z]{1,8}")
 
 
