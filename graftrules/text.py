@@ -125,7 +125,7 @@ def read_lot(text):
     lot = Lot([])
     lines = text.split("\n") if text != "" else []
     for number, line in enumerate(lines):
-        # A line by itself tells the number of a rule too many, and None is no rule of any lot.
+        # Nine rules at once would not tell which line is wrong. What holds no two trees is None, which is no rule.
         try:
             lot = Lot(lot.rules() + [rule_of(line)])
         except BadLot:

@@ -12,7 +12,7 @@ class Wood:
     def __init__(self, lot, tree):
         self._lot = lot
         self._tree = tree
-        # Behind each deed stand the lot and the tree ahead of it.
+        # Tuples of a deed and of the lot and the tree as they were ahead of it.
         self._deeds = []
         # For each mark, how many deeds there were when it was set.
         self._marks = []
@@ -28,7 +28,7 @@ class Wood:
 
     def done(self):
         """Return the list of the deeds that were done and not undone."""
-        return [deed for deed, _, _ in self._deeds]
+        return [told[0] for told in self._deeds]
 
     def _lead(self, deed, lot, tree):
         """Do a deed that leads to this lot and this tree."""
